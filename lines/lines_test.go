@@ -1,0 +1,387 @@
+package lines
+
+import (
+	"fmt"
+	"math"
+	"slices"
+	"testing"
+
+	"millrace/api"
+	"millrace/memory"
+	"millrace/retry"
+	"millrace/stream"
+)
+
+// rawErrors are errors that a Raw may answer, that are told as they are and set Bad; some are those that a call says of its own, the last ones are no known errors.
+var rawErrors = []api.Errno{api.ErrArg, api.ErrMade, api.ErrRange, api.ErrLong, api.ErrFull, api.ErrState, api.ErrPipe, api.ErrDesc, api.ErrMode, api.ErrCustom, api.ErrDir, api.ErrClosed, api.ErrTries, api.ErrRaw, 7, -1, -52}
+
+// reply is what a raw read answers, answer what a raw write answers.
+type reply struct {
+	b string
+	e api.Errno
+}
+
+type answer struct {
+	n int
+	e api.Errno
+}
+
+// scripted is a Raw that gives its answers one by one and writes down what it is asked; behind the last one reads meet the end, and writes take all.
+type scripted struct {
+	reads  []reply
+	writes []answer
+	calls  []string
+	taken  string
+}
+
+func (x *scripted) Read(n int) ([]byte, api.Errno) {
+	x.calls = append(x.calls, readCall(n))
+	if len(x.reads) == 0 {
+		return nil, api.OK
+	}
+	a := x.reads[0]
+	if a.e == api.OK && len(a.b) > n {
+		x.reads[0].b = a.b[n:]
+		return []byte(a.b[:n]), api.OK
+	}
+	x.reads = x.reads[1:]
+	return []byte(a.b), a.e
+}
+
+func (x *scripted) Write(b []byte) (int, api.Errno) {
+	x.calls = append(x.calls, writeCall(string(b)))
+	a := answer{n: len(b)}
+	if len(x.writes) > 0 {
+		a, x.writes = x.writes[0], x.writes[1:]
+	}
+	if a.e == api.OK && a.n > 0 && a.n <= len(b) {
+		x.taken += string(b[:a.n])
+	}
+	return a.n, a.e
+}
+
+func (x *scripted) Seek(off int, whence int) (int, api.Errno) {
+	x.calls = append(x.calls, "seek")
+	return 0, api.ErrSeek
+}
+
+func readCall(n int) string     { return fmt.Sprint("read ", n) }
+func writeCall(b string) string { return "write " + b }
+
+// texts is a Raw whose reads tell these texts, each by as many reads as it takes.
+func texts(l ...string) *scripted {
+	x := &scripted{}
+	for _, b := range l {
+		x.reads = append(x.reads, reply{b: b})
+	}
+	return x
+}
+
+// then is that Raw, with one more read behind the others that answers so.
+func (x *scripted) then(e api.Errno) *scripted {
+	x.reads = append(x.reads, reply{e: e})
+	return x
+}
+
+// writesOf is a Raw whose writes give these answers.
+func writesOf(answers ...answer) *scripted { return &scripted{writes: answers} }
+
+// wantCalls holds the raw calls against those that are wanted.
+func wantCalls(t *testing.T, call string, x *scripted, want ...string) {
+	t.Helper()
+	if !slices.Equal(x.calls, want) {
+		t.Errorf("P5: %s: the raw calls are %.300q, not %.300q", call, x.calls, want)
+	}
+}
+
+// text is a pattern of n bytes, of all values.
+func text(n int) string {
+	b := make([]byte, n)
+	for i := range b {
+		b[i] = byte(i * 7)
+	}
+	return string(b)
+}
+
+// letters is a pattern of n bytes, none of which is a newline.
+func letters(n int) string {
+	b := make([]byte, n)
+	for i := range b {
+		b[i] = 'a' + byte(i%23)
+	}
+	return string(b)
+}
+
+// dice are numbers that hang on the seed alone.
+func dice(seed uint64) func(n int) int {
+	return func(n int) int {
+		seed = seed*6364136223846793005 + 1442695040888963407
+		return int(seed >> 33 % uint64(n))
+	}
+}
+
+// short tells bytes; long ones by their length.
+func short(b []byte) string {
+	if len(b) > 20 {
+		return fmt.Sprintf("%q.. (%d)", b[:20], len(b))
+	}
+	return fmt.Sprintf("%q", b)
+}
+
+func show(s stream.State) string {
+	return fmt.Sprintf("{Reads %t Writes %t Mode %d Size %d Out %s In %s Back %s Dir %d End %t Bad %t Closed %t}", s.Reads, s.Writes, s.Mode, s.Size, short(s.Out), short(s.In), short(s.Back), s.Dir, s.End, s.Bad, s.Closed)
+}
+
+// same tells whether states are one; nil and empty lists are (P1).
+func same(a, b stream.State) bool {
+	lists := string(a.Out) == string(b.Out) && string(a.In) == string(b.In) && string(a.Back) == string(b.Back)
+	marks := a.End == b.End && a.Bad == b.Bad && a.Closed == b.Closed
+	return lists && marks && a.Reads == b.Reads && a.Writes == b.Writes && a.Mode == b.Mode && a.Size == b.Size && a.Dir == b.Dir
+}
+
+func wantState(t *testing.T, call string, got, want stream.State) {
+	t.Helper()
+	if !same(got, want) {
+		t.Errorf("%s: the state that follows is %s, not %s", call, show(got), show(want))
+	}
+	if stream.Check(got) != api.OK && stream.Check(want) == api.OK {
+		t.Errorf("P11.8: %s: the state that follows may not be: %s", call, show(got))
+	}
+}
+
+// both is a state that reads and writes, of that mode and size.
+func both(mode, size int) stream.State {
+	return stream.State{Reads: true, Writes: true, Mode: mode, Size: size}
+}
+
+// holding is a state that writes, with that held.
+func holding(mode, size int, out string) stream.State {
+	s := both(mode, size)
+	s.Out, s.Dir = []byte(out), 2
+	return s
+}
+
+// got is a state that reads, with that held; the last byte of back is got first.
+func got(mode, size int, in, back string) stream.State {
+	s := both(mode, size)
+	s.In, s.Back, s.Dir = []byte(in), []byte(back), 1
+	return s
+}
+
+// with answers the state, changed.
+func with(s stream.State, change func(*stream.State)) stream.State {
+	change(&s)
+	return s
+}
+
+func ended(s stream.State) stream.State { return with(s, func(s *stream.State) { s.End = true }) }
+func bad(s stream.State) stream.State   { return with(s, func(s *stream.State) { s.Bad = true }) }
+func done(s stream.State) stream.State  { return with(s, func(s *stream.State) { s.Closed = true }) }
+
+// left is that state, where of Out only this is left.
+func left(s stream.State, out string) stream.State {
+	return with(s, func(s *stream.State) { s.Out = []byte(out) })
+}
+
+// buffers hands out modes and sizes.
+func buffers(yield func(mode, size int) bool) {
+	for mode := 1; mode <= 3; mode++ {
+		for _, size := range []int{1, 2, 3, 5, 64, 65, api.MaxBuf} {
+			if !yield(mode, size) {
+				return
+			}
+		}
+	}
+}
+
+// fewBuffers hands out some of them, for as many bytes as may be.
+func fewBuffers(yield func(mode, size int) bool) {
+	_ = yield(1, 1) && yield(2, 65) && yield(3, 1) && yield(3, api.MaxBuf)
+}
+
+// get, until, all, put and putLine make a call and hold what it answers against what is wanted; they answer the state that follows.
+func get(t *testing.T, s stream.State, r retry.Raw, limit int, want string, wantE api.Errno) stream.State {
+	t.Helper()
+	after, b, e := Get(s, r, limit)
+	wantBytes(t, fmt.Sprintf("P15.1: Get(%d), %s", limit, show(s)), b, e, want, wantE)
+	return after
+}
+
+func until(t *testing.T, s stream.State, r retry.Raw, d byte, limit int, want string, wantE api.Errno) stream.State {
+	t.Helper()
+	after, b, e := Until(s, r, d, limit)
+	wantBytes(t, fmt.Sprintf("P15.1: Until(%q, %d), %s", d, limit, show(s)), b, e, want, wantE)
+	return after
+}
+
+func all(t *testing.T, s stream.State, r retry.Raw, limit int, want string, wantE api.Errno) stream.State {
+	t.Helper()
+	after, b, e := All(s, r, limit)
+	wantBytes(t, fmt.Sprintf("P15.1: All(%d), %s", limit, show(s)), b, e, want, wantE)
+	return after
+}
+
+func wantBytes(t *testing.T, call string, b []byte, e api.Errno, want string, wantE api.Errno) {
+	t.Helper()
+	if string(b) != want || e != wantE {
+		t.Errorf("%s: %s, %d, not %s, %d", call, short(b), e, short([]byte(want)), wantE)
+	}
+}
+
+func put(t *testing.T, s stream.State, r retry.Raw, b string, want int, wantE api.Errno) stream.State {
+	t.Helper()
+	after, n, e := Put(s, r, []byte(b))
+	if n != want || e != wantE {
+		t.Errorf("P15.2: Put(%s), %s: %d, %d, not %d, %d", short([]byte(b)), show(s), n, e, want, wantE)
+	}
+	return after
+}
+
+func putLine(t *testing.T, s stream.State, r retry.Raw, b string, want int, wantE api.Errno) stream.State {
+	t.Helper()
+	after, n, e := PutLine(s, r, []byte(b))
+	if n != want || e != wantE {
+		t.Errorf("P15.2: PutLine(%s), %s: %d, %d, not %d, %d", short([]byte(b)), show(s), n, e, want, wantE)
+	}
+	return after
+}
+
+// outcome is what any call of the layer answers.
+type outcome struct {
+	s stream.State
+	b []byte
+	n int
+	e api.Errno
+}
+
+func (x outcome) String() string {
+	return fmt.Sprintf("%s, %d, %d, %s", short(x.b), x.n, x.e, show(x.s))
+}
+
+func (x outcome) is(y outcome) bool {
+	return same(x.s, y.s) && string(x.b) == string(y.b) && x.n == y.n && x.e == y.e
+}
+
+// gets and puts are the calls of the layer by a number (a limit, how many bytes), as calls that answer an outcome.
+var gets = map[string]func(stream.State, retry.Raw, int) outcome{
+	"Get": func(s stream.State, r retry.Raw, limit int) outcome {
+		after, b, e := Get(s, r, limit)
+		return outcome{s: after, b: b, e: e}
+	},
+	"Until": func(s stream.State, r retry.Raw, limit int) outcome {
+		after, b, e := Until(s, r, ';', limit)
+		return outcome{s: after, b: b, e: e}
+	},
+	"All": func(s stream.State, r retry.Raw, limit int) outcome {
+		after, b, e := All(s, r, limit)
+		return outcome{s: after, b: b, e: e}
+	},
+}
+
+var puts = map[string]func(stream.State, retry.Raw, []byte) outcome{
+	"Put": func(s stream.State, r retry.Raw, b []byte) outcome {
+		after, n, e := Put(s, r, b)
+		return outcome{s: after, n: n, e: e}
+	},
+	"PutLine": func(s stream.State, r retry.Raw, b []byte) outcome {
+		after, n, e := PutLine(s, r, b)
+		return outcome{s: after, n: n, e: e}
+	},
+}
+
+// wrongStates are states that may not be.
+var wrongStates = []stream.State{
+	{},
+	both(0, 4),
+	both(4, 4),
+	both(-1, 4),
+	both(3, 0),
+	both(3, -1),
+	both(3, api.MaxBuf+1),
+	both(math.MaxInt, math.MinInt),
+	holding(3, 2, "out"),
+	holding(1, 4, "o"),
+	got(3, 4, "in", "123456789"),
+	got(3, 4, text(api.MaxBuf+1), ""),
+	with(both(3, 4), func(s *stream.State) { s.Dir = 3 }),
+	with(both(3, 4), func(s *stream.State) { s.Dir = -1 }),
+	with(got(3, 4, "", ""), func(s *stream.State) { s.Reads = false }),
+	with(holding(3, 4, ""), func(s *stream.State) { s.Writes = false }),
+	with(holding(3, 4, "o"), func(s *stream.State) { s.In = []byte("i") }),
+	with(got(3, 4, "i", ""), func(s *stream.State) { s.Out = []byte("o") }),
+	with(both(3, 4), func(s *stream.State) { s.Back = []byte("b") }),
+	done(got(3, 4, "in", "back")),
+	done(holding(3, 4, "out")),
+}
+
+// TestExamples: those of the chapter.
+func TestExamples(t *testing.T) {
+	for mode, size := range buffers {
+		r, _ := memory.NewReader([]byte("ab\ncd"))
+		s := get(t, both(mode, size), r, 9, "ab\n", api.OK)
+		s = get(t, s, r, 1, "c", api.OK)
+		s = get(t, s, r, 9, "d", api.OK)
+		get(t, s, r, 9, "", api.ErrEnd)
+	}
+}
+
+// TestNumbers: the numbers of the modes are those of chapter 11, a newline is the byte 10.
+func TestNumbers(t *testing.T) {
+	if unbuffered != 1 || byLines != 2 || newline != 10 {
+		t.Errorf("P15.2: %d %d %d", unbuffered, byLines, newline)
+	}
+}
+
+// TestRefusals: the first error that holds is told, beside nothing but the state that was handed in; no raw call is made (P15.1, P15.2, P4).
+func TestRefusals(t *testing.T) {
+	open := []stream.State{both(3, 4), got(2, 4, "in", "back"), bad(ended(holding(3, 4, "out"))), both(1, 4), {Mode: 3, Size: 4}}
+	for name, call := range gets {
+		for _, limit := range []int{9, -1} {
+			refused(t, name, open, map[bool]api.Errno{true: api.ErrRange}[limit < 0], func(s stream.State, r retry.Raw) outcome {
+				return call(s, r, limit)
+			})
+		}
+	}
+	for name, call := range puts {
+		for _, long := range []bool{false, true} {
+			b := make([]byte, map[bool]int{true: api.MaxFile + 1, false: 1}[long])
+			refused(t, name, open, map[bool]api.Errno{true: api.ErrLong}[long], func(s stream.State, r retry.Raw) outcome {
+				return call(s, r, b)
+			})
+		}
+	}
+}
+
+// refused holds a call against the order of errors; last is the one that its other argument asks for, if it does.
+func refused(t *testing.T, name string, open []stream.State, last api.Errno, call func(stream.State, retry.Raw) outcome) {
+	t.Helper()
+	want := func(s stream.State, r *scripted, wantE api.Errno) {
+		t.Helper()
+		var raw retry.Raw
+		if r != nil {
+			raw = r
+		}
+		got := call(s, raw)
+		if !got.is(outcome{s: s, e: wantE}) {
+			t.Errorf("P4: %s, %s, a Raw %t: %s, not %d", name, show(s), r != nil, got, wantE)
+		}
+		if r != nil {
+			wantCalls(t, name, r)
+		}
+	}
+	for _, s := range wrongStates {
+		want(s, nil, api.ErrState)
+		want(s, &scripted{}, api.ErrState)
+	}
+	for _, mode := range []int{1, 2, 3} {
+		want(done(both(mode, 4)), nil, api.ErrMade)
+		want(done(both(mode, 4)), &scripted{}, api.ErrClosed)
+		want(done(bad(ended(both(mode, 4)))), &scripted{}, api.ErrClosed)
+	}
+	for _, s := range open {
+		want(s, nil, api.ErrMade)
+		if last != api.OK {
+			want(s, &scripted{}, last)
+		}
+	}
+}
